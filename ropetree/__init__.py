@@ -1,0 +1,1 @@
+"""Places joined by costed ropes, and the trees among these."""
