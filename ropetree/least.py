@@ -1,14 +1,13 @@
 """The least tree and the dearest one, what a tree costs, and why a rope is in the least tree or not."""
 
 from ropetree.errors import NoRope, NoTree
-from ropetree.nets import check_ropes, is_rope_number, is_tree, take_ringless, ways_from
+from ropetree.nets import check_ropes, cost_of, from_cheapest, is_rope_number, is_tree, take_ringless, ways_from
 
 
 def least_tree(count, ropes):
     check_ropes(count, ropes)
     # From the cheapest on, so that the rope left of each ring is its dearest.
-    order = sorted(range(len(ropes)), key=lambda number: (ropes[number][2], number))
-    return sorted(take_ringless(count, ropes, order))
+    return sorted(take_ringless(count, ropes, from_cheapest(ropes)))
 
 
 def dearest_tree(count, ropes):
@@ -18,7 +17,7 @@ def dearest_tree(count, ropes):
 def total(count, ropes, numbers):
     if not is_tree(count, ropes, numbers):
         raise NoTree("no tree")
-    return sum([ropes[number][2] for number in numbers])
+    return cost_of(ropes, numbers)
 
 
 def why(count, ropes, number):

@@ -1,13 +1,17 @@
-"""Places joined by ropes: what is no place, what leads where, and what is a tree."""
+"""Places joined by ropes: what is no place, what leads where, what it costs, and what is a tree."""
 
 from ropetree.errors import NoPlace
 
 
-def check_ropes(count, ropes):
-    for rope in ropes:
-        if not (0 <= rope[0] < count and 0 <= rope[1] < count):
+def check_places(count, places):
+    for place in places:
+        if not 0 <= place < count:
             # The number stays out of the words: Python refuses to write out very large ones.
             raise NoPlace("no place")
+
+
+def check_ropes(count, ropes):
+    check_places(count, [rope[0] for rope in ropes] + [rope[1] for rope in ropes])
 
 
 # Asked ahead of each index, since Python takes an index below nought for one from the end.
@@ -24,6 +28,15 @@ def is_tree(count, ropes, numbers):
         return False
     # This tells a number that stands twice, too: its second one joins nothing any more.
     return len(take_ringless(count, ropes, numbers)) == len(numbers)
+
+
+def cost_of(ropes, numbers):
+    return sum([ropes[number][2] for number in numbers])
+
+
+# Of ropes that cost the same the one with the lesser number is cheaper.
+def from_cheapest(ropes):
+    return sorted(range(len(ropes)), key=lambda number: (ropes[number][2], number))
 
 
 # The order decides: of a ring's ropes the one that comes last in it is left.

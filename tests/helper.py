@@ -73,6 +73,30 @@ def is_least(count, ropes, tree):
     return True
 
 
+def least_anew(count, ropes):
+    """The least tree, by leaving each rope, the dearest first, without which its ends still hang together."""
+    kept = list(range(len(ropes)))
+    for number in sorted(kept, key=lambda number: rank(ropes, number), reverse=True):
+        rest = [other for other in kept if other != number]
+        if ropes[number][1] in hanging(count, ropes, rest, ropes[number][0]):
+            kept = rest
+    return kept
+
+
+def all_ways(ropes, start, end, gone=()):
+    """All rows of ropes from the one place to the other that come to no place twice."""
+    if start == end:
+        yield []
+        return
+    gone = gone + (start,)
+    for number, (one, other, cost) in enumerate(ropes):
+        if start in (one, other):
+            far = other if start == one else one
+            if far not in gone:
+                for rest in all_ways(ropes, far, end, gone):
+                    yield [number] + rest
+
+
 def leads(ropes, numbers, start):
     """Where a row of ropes leads to from the start; None where it doesn't hold together."""
     place = start
@@ -102,6 +126,26 @@ def small_nets():
         for size in range(source.randrange(0, 9)):
             ropes.append((source.randrange(count), source.randrange(count), source.randrange(-2, 3)))
         yield count, ropes
+
+
+def small_days():
+    """Some hundred days, the same each time, with wrong deeds among the others."""
+    source = random.Random(31)
+    for turn in range(150):
+        count = source.randrange(0, 6)
+        deeds = []
+        for size in range(source.randrange(0, 40)):
+            kind = source.choice(("lay", "lay", "cost", "cost", "cost", "look"))
+            cost = source.randrange(-3, 4)
+            if kind == "lay" and source.randrange(6):
+                deeds.append(("lay", source.randrange(max(count, 1)), source.randrange(max(count, 1)), cost))
+            elif kind == "lay":
+                deeds.append(("lay", source.randrange(-1, count + 2), source.randrange(-1, count + 2), cost))
+            elif kind == "cost":
+                deeds.append(("cost", source.randrange(-1, len(deeds) // 2 + 2), cost))
+            else:
+                deeds.append(("look",))
+        yield count, deeds
 
 
 def large_net(count, size, figures):

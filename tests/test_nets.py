@@ -4,6 +4,8 @@ import unittest
 from ropetree.errors import NoPlace
 from ropetree.least import dearest_tree, least_tree, total, why
 from ropetree.nets import is_tree
+from ropetree.other import second_tree, steps_to
+from ropetree.ways import best_way, groups_below
 from tests.helper import small_nets, tiny_nets, tree_by_words
 
 # A ring of nought, one and two, a rope to three, and four alone.
@@ -19,6 +21,17 @@ ASKED = (
     ("why", lambda count, ropes: why(count, ropes, 0)),
     ("why ahead of NoRope", lambda count, ropes: why(count, ropes, 99)),
     ("why ahead of NoRope below nought", lambda count, ropes: why(count, ropes, -1)),
+    ("why ahead of NoRope for a very large number", lambda count, ropes: why(count, ropes, 10 ** 5000)),
+    ("second_tree", second_tree),
+    ("steps_to", lambda count, ropes: steps_to(count, ropes, [0], [0])),
+    ("steps_to ahead of NoTree", lambda count, ropes: steps_to(count, ropes, [], [])),
+    ("steps_to ahead of NoTree of the first", lambda count, ropes: steps_to(count, ropes, [-1, 99], [0])),
+    ("steps_to ahead of NoTree of the second", lambda count, ropes: steps_to(count, ropes, [0], [99, 10 ** 5000])),
+    ("best_way", lambda count, ropes: best_way(count, ropes, 0, 1)),
+    ("best_way from a place to itself", lambda count, ropes: best_way(count, ropes, 0, 0)),
+    ("best_way with what is no place", lambda count, ropes: best_way(count, ropes, -1, 99)),
+    ("groups_below", lambda count, ropes: groups_below(count, ropes, 5)),
+    ("groups_below that leaves the rope", lambda count, ropes: groups_below(count, ropes, -5)),
 )
 
 
